@@ -4,7 +4,7 @@ A row tells where the whole of one company goes: a fraction for each holder, by 
 holders' numbers, then what is strewn, then what is lost. Together they are always 1.
 """
 
-from reallyowned.fraction import ONE, ZERO, minus, over, plus, times
+from reallyowned.fraction import ONE, ZERO, is_above, minus, over, plus, times
 
 
 def strewn_place(holdings):
@@ -46,31 +46,60 @@ def sent_on(row, place, onward):
     return sent
 
 
-def final_rows(holdings):
-    """Of each company its row behind all steps: nothing is left with companies."""
-    rows = first_rows(holdings)
-    for company in range(holdings.companies):
-        place = holdings.people + company
+def behind_all_steps(rows, first):
+    """The rows with nothing left at the companies' places; company 0 has the place first."""
+    companies = len(rows)
+    for company in range(companies):
+        place = first + company
         onward = without_return(rows[company], place)
         rows = [sent_on(row, place, onward) for row in rows]
         rows[company] = onward
     return rows
 
 
+def final_rows(holdings):
+    """Of each company its row behind all steps: nothing is left with companies."""
+    return behind_all_steps(first_rows(holdings), holdings.people)
+
+
 def really_owned(holdings, person, company):
     return final_rows(holdings)[company][person]
+
+
+def owned_by(holdings, person):
+    """Of each company what the person really owns."""
+    return [row[person] for row in final_rows(holdings)]
+
+
+def greatest_owner(holdings, company):
+    """The person who really owns most of it, of like ones the first; then how much."""
+    row = final_rows(holdings)[company]
+    greatest = 0
+    for person in range(holdings.people):
+        if is_above(row[person], row[greatest]):
+            greatest = person
+    return (greatest, row[greatest])
 
 
 def strewn_in_the_end(holdings, company):
     return final_rows(holdings)[company][strewn_place(holdings)]
 
 
+def lost_by_company(holdings):
+    """Of each company what is lost of it."""
+    place = lost_place(holdings)
+    return [row[place] for row in final_rows(holdings)]
+
+
 def lost_of(holdings, company):
-    return final_rows(holdings)[company][lost_place(holdings)]
+    return lost_by_company(holdings)[company]
 
 
 def losing_companies(holdings):
     """The companies of which something is lost, rising."""
-    rows = final_rows(holdings)
-    place = lost_place(holdings)
-    return [company for company in range(holdings.companies) if rows[company][place] != ZERO]
+    return [company for company, amount in enumerate(lost_by_company(holdings)) if amount != ZERO]
+
+
+def closed_companies(holdings):
+    """The companies of which all is lost, rising."""
+    return [company for company, amount in enumerate(lost_by_company(holdings)) if amount == ONE]

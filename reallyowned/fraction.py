@@ -19,6 +19,10 @@ def lowest(upper, lower):
     return (upper // divisor, lower // divisor)
 
 
+def whole(number):
+    return (number, 1)
+
+
 def plus(x, y):
     return lowest(x[0] * y[1] + y[0] * x[1], x[1] * y[1])
 
@@ -38,3 +42,10 @@ def over(x, y):
 
 def is_above(x, y):
     return x[0] * y[1] > y[0] * x[1]
+
+
+def total(amounts):
+    together = ZERO
+    for amount in amounts:
+        together = plus(together, amount)
+    return together

@@ -1,6 +1,6 @@
 """What is kept along a line of calls: the people, the companies, and who holds which part."""
 
-from reallyowned.fraction import ONE, ZERO, minus, plus
+from reallyowned.fraction import ONE, ZERO, minus, total
 
 
 class Holdings:
@@ -35,7 +35,8 @@ class Holdings:
         self.parts[company][holder] = part
 
     def strewn(self, company):
-        held = ZERO
-        for part in self.parts[company]:
-            held = plus(held, part)
-        return minus(ONE, held)
+        return minus(ONE, total(self.parts[company]))
+
+    def holders(self, company):
+        """The numbers of those who have some of it, rising."""
+        return [holder for holder, part in enumerate(self.parts[company]) if part != ZERO]

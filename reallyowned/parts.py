@@ -1,17 +1,22 @@
 """Answers a line of calls, handed in as one list of whole numbers."""
 
-from reallyowned.ends import losing_companies, lost_of, really_owned, strewn_in_the_end
-from reallyowned.fraction import is_above, lowest, plus
+from reallyowned.ends import closed_companies, greatest_owner, losing_companies, lost_of, owned_by, really_owned
+from reallyowned.ends import strewn_in_the_end
+from reallyowned.fraction import ZERO, is_above, lowest, plus
 from reallyowned.holdings import Holdings
+from reallyowned.worth import book_values, worth_by_books, worth_by_real_parts
 
 NO_SUCH = -2
 NOT_BEGUN = -11
 NOT_RIGHT = -22
 MORE_THAN_ALL = -33
+NONE_THERE = -33
+NOT_TO_BE_TOLD = -33
 
 MOST_PEOPLE = 4
 MOST_COMPANIES = 5
 MOST_LOWER = 100
+MOST_OWN = 1000
 
 BEGIN = 0
 
@@ -38,6 +43,22 @@ SHAPES = (
 
 def told(fraction):
     return [0, fraction[0], fraction[1]]
+
+
+def told_companies(companies):
+    return [len(companies)] + companies
+
+
+def told_for_each(fractions):
+    told_numbers = [len(fractions)]
+    for fraction in fractions:
+        told_numbers.extend([fraction[0], fraction[1]])
+    return told_numbers
+
+
+def is_own_list(holdings, row):
+    """Whether it tells for each company what that one has itself."""
+    return len(row) == holdings.companies and all([0 <= amount <= MOST_OWN for amount in row])
 
 
 def answer_begin(holdings, numbers, rows):
@@ -105,8 +126,77 @@ def answer_lost(holdings, numbers, rows):
 
 
 def answer_rings(holdings, numbers, rows):
-    losing = losing_companies(holdings)
-    return [len(losing)] + losing
+    return told_companies(losing_companies(holdings))
+
+
+def answer_closed(holdings, numbers, rows):
+    return told_companies(closed_companies(holdings))
+
+
+def answer_greatest(holdings, numbers, rows):
+    company = numbers[0]
+    if not holdings.has_company(company):
+        return [NO_SUCH]
+    greatest = greatest_owner(holdings, company)
+    person = greatest[0]
+    amount = greatest[1]
+    if amount == ZERO:
+        return [NONE_THERE]
+    return [person, amount[0], amount[1]]
+
+
+def answer_owned(holdings, numbers, rows):
+    person = numbers[0]
+    if not holdings.has_person(person):
+        return [NO_SUCH]
+    return told_for_each(owned_by(holdings, person))
+
+
+def answer_books(holdings, numbers, rows):
+    own = rows[0]
+    if not is_own_list(holdings, own):
+        return [NOT_RIGHT]
+    if closed_companies(holdings):
+        return [NOT_TO_BE_TOLD]
+    return told_for_each(book_values(holdings, own))
+
+
+def answer_worth(holdings, numbers, rows):
+    person = numbers[0]
+    own = rows[0]
+    if not holdings.has_person(person):
+        return [NO_SUCH]
+    if not is_own_list(holdings, own):
+        return [NOT_RIGHT]
+    return told(worth_by_real_parts(holdings, person, own))
+
+
+def answer_bookworth(holdings, numbers, rows):
+    person = numbers[0]
+    own = rows[0]
+    if not holdings.has_person(person):
+        return [NO_SUCH]
+    if not is_own_list(holdings, own):
+        return [NOT_RIGHT]
+    if closed_companies(holdings):
+        return [NOT_TO_BE_TOLD]
+    return told(worth_by_books(holdings, person, own))
+
+
+def answer_holders(holdings, numbers, rows):
+    company = numbers[0]
+    if not holdings.has_company(company):
+        return [NO_SUCH]
+    holders = holdings.holders(company)
+    told_numbers = [len(holders)]
+    for holder in holders:
+        part = holdings.part(holder, company)
+        told_numbers.extend([holder, part[0], part[1]])
+    return told_numbers
+
+
+def answer_state(holdings, numbers, rows):
+    return [holdings.people, holdings.companies]
 
 
 # By the number of the call: what answers it.
@@ -119,6 +209,14 @@ ANSWERS = (
     answer_realstrewn,
     answer_lost,
     answer_rings,
+    answer_closed,
+    answer_greatest,
+    answer_owned,
+    answer_books,
+    answer_worth,
+    answer_bookworth,
+    answer_holders,
+    answer_state,
 )
 
 

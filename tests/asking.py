@@ -1,11 +1,15 @@
 """What the tests share: the calls by their names, asking a line, and states to ask about."""
 
+import unittest
 from fractions import Fraction
 
 from reallyowned.parts import answers
 
 LARGEST = 4294967295
 MOST_CALLS = 40
+
+# What each of five companies has itself, where a test has no wish of its own.
+OWN = [1000, 0, 7, 333, 1]
 
 
 def begin(m, n):
@@ -38,6 +42,38 @@ def lost(j):
 
 def rings():
     return [7]
+
+
+def closed():
+    return [8]
+
+
+def greatest(j):
+    return [9, j]
+
+
+def owned(p):
+    return [10, p]
+
+
+def books(own):
+    return [11, len(own)] + own
+
+
+def worth(p, own):
+    return [12, p, len(own)] + own
+
+
+def bookworth(p, own):
+    return [13, p, len(own)] + own
+
+
+def holders(j):
+    return [14, j]
+
+
+def state():
+    return [15]
 
 
 def line_of(calls):
@@ -86,17 +122,48 @@ def all_questions(m, n):
     questions = [part(h, j) for h in range(m + n) for j in range(n)]
     questions += [real(p, j) for p in range(m) for j in range(n)]
     for j in range(n):
-        questions += [strewn(j), realstrewn(j), lost(j)]
-    return questions + [rings()]
+        questions += [strewn(j), realstrewn(j), lost(j), greatest(j), holders(j)]
+    for p in range(m):
+        questions += [owned(p), worth(p, OWN[:n]), bookworth(p, OWN[:n])]
+    return questions + [rings(), closed(), books(OWN[:n]), state()]
 
 
 def as_fraction(answer):
     """The fraction of an answer; it must stand in its lowest form."""
     zero, upper, lower = answer
+    if zero != 0:
+        raise ValueError(f"no answer of 0 and a fraction: {answer}")
+    return lowest_fraction(upper, lower)
+
+
+def as_fractions(answer):
+    """The fractions of an answer that tells how many, then a fraction for each."""
+    if len(answer) != 1 + 2 * answer[0]:
+        raise ValueError(f"not so many fractions: {answer}")
+    return [lowest_fraction(upper, lower) for upper, lower in zip(answer[1::2], answer[2::2])]
+
+
+def lowest_fraction(upper, lower):
     value = Fraction(upper, lower)
-    if zero != 0 or (value.numerator, value.denominator) != (upper, lower):
-        raise ValueError(f"no answer with a fraction in its lowest form: {answer}")
+    if (value.numerator, value.denominator) != (upper, lower):
+        raise ValueError(f"not in its lowest form: {upper} by {lower}")
     return value
+
+
+def as_numbers(value):
+    """The two numbers by which a fraction is told."""
+    return [value.numerator, value.denominator]
+
+
+class Refusing(unittest.TestCase):
+    def refuses(self, number, start, *wrong):
+        """Each of them is answered so behind the start, and changes nothing."""
+        questions = all_questions(*start[0][1:])
+        before = ask_state(start, questions)
+        for one in wrong:
+            self.assertEqual(ask_last(*start, one), [number], one)
+            # The calls behind show, too, that it was passed over whole.
+            self.assertEqual(ask_state(start + [one], questions), before, one)
 
 
 class Numbers:

@@ -4,7 +4,7 @@ import unittest
 from fractions import Fraction
 
 from tests.asking import (
-    LARGEST, Numbers, all_questions, as_fraction, ask, ask_last, ask_state, begin, hold, part, strewn,
+    LARGEST, Refusing, all_questions, as_fraction, ask, ask_last, begin, hold, part, strewn,
 )
 
 
@@ -64,33 +64,27 @@ class Hold(unittest.TestCase):
         self.assertEqual(as_fraction(ask_last(*start, strewn(0))), left)
 
 
-class HoldRefused(unittest.TestCase):
-    def refuses(self, number, *wrong):
-        start = [begin(2, 3), hold(0, 0, 1, 3), hold(4, 0, 1, 2), hold(2, 1, 1, 1)]
-        questions = all_questions(2, 3)
-        before = ask_state(start, questions)
-        for one in wrong:
-            self.assertEqual(ask_last(*start, one), [number], one)
-            self.assertEqual(ask_state(start + [one], questions), before, one)
+class HoldRefused(Refusing):
+    start = [begin(2, 3), hold(0, 0, 1, 3), hold(4, 0, 1, 2), hold(2, 1, 1, 1)]
 
     def test_no_such_holder_or_company(self):
-        self.refuses(-2, hold(5, 0, 1, 9), hold(0, 3, 1, 9), hold(5, 3, 1, 9), hold(LARGEST, 0, 1, 9),
+        self.refuses(-2, self.start, hold(5, 0, 1, 9), hold(0, 3, 1, 9), hold(5, 3, 1, 9), hold(LARGEST, 0, 1, 9),
                      hold(0, LARGEST, 1, 9))
 
     def test_no_such_ahead_of_all_else(self):
-        self.refuses(-2, hold(5, 0, 1, 0), hold(5, 0, 2, 1), hold(0, 3, 1, 101), hold(5, 0, 1, 1),
+        self.refuses(-2, self.start, hold(5, 0, 1, 0), hold(5, 0, 2, 1), hold(0, 3, 1, 101), hold(5, 0, 1, 1),
                      hold(LARGEST, LARGEST, LARGEST, LARGEST))
 
     def test_what_is_given_is_not_right(self):
-        self.refuses(-22, hold(0, 2, 0, 0), hold(0, 2, 1, 0), hold(0, 2, 1, 101), hold(0, 2, 0, 101), hold(0, 2, 2, 1),
-                     hold(0, 2, 101, 100), hold(0, 2, LARGEST, 100), hold(0, 2, 0, LARGEST),
+        self.refuses(-22, self.start, hold(0, 2, 0, 0), hold(0, 2, 1, 0), hold(0, 2, 1, 101), hold(0, 2, 0, 101),
+                     hold(0, 2, 2, 1), hold(0, 2, 101, 100), hold(0, 2, LARGEST, 100), hold(0, 2, 0, LARGEST),
                      hold(0, 2, LARGEST, LARGEST), hold(0, 2, LARGEST, 0))
 
     def test_not_right_ahead_of_more_than_all(self):
-        self.refuses(-22, hold(1, 1, 3, 2), hold(1, 1, 101, 101), hold(1, 0, 100, 99), hold(2, 1, 2, 1))
+        self.refuses(-22, self.start, hold(1, 1, 3, 2), hold(1, 1, 101, 101), hold(1, 0, 100, 99), hold(2, 1, 2, 1))
 
     def test_more_than_all(self):
-        self.refuses(-33, hold(1, 1, 1, 100), hold(1, 1, 1, 1), hold(1, 0, 17, 100), hold(0, 0, 51, 100),
+        self.refuses(-33, self.start, hold(1, 1, 1, 100), hold(1, 1, 1, 1), hold(1, 0, 17, 100), hold(0, 0, 51, 100),
                      hold(4, 0, 67, 100), hold(3, 1, 100, 100))
 
     def test_just_all_is_not_more(self):
@@ -121,69 +115,11 @@ class PartAndStrewn(unittest.TestCase):
 
     def test_asking_changes_nothing(self):
         start = [begin(2, 3), hold(0, 0, 1, 3), hold(3, 0, 1, 2), hold(2, 1, 1, 1)]
-        questions = all_questions(2, 3)[:18]
-        answered = ask(*start, *questions, *questions)
-        self.assertEqual(answered[4:22], answered[22:])
-
-
-class Model:
-    """hold, part and strewn told once more, in another way: a dict of the parts that were given."""
-
-    def __init__(self, m, n):
-        self.m = m
-        self.n = n
-        self.has = {}
-
-    def fraction(self, value):
-        return [0, value.numerator, value.denominator]
-
-    def answer(self, call):
-        number, *given = call
-        j = given[0] if number == 3 else given[1]
-        if j >= self.n or (number != 3 and given[0] >= self.m + self.n):
-            return [-2]
-        if number == 3:
-            return self.fraction(1 - sum(x for (h, k), x in self.has.items() if k == j))
-        before = self.has.get((given[0], j), Fraction(0))
-        if number == 2:
-            return self.fraction(before)
-        a, b = given[2:]
-        if b < 1 or b > 100 or a > b:
-            return [-22]
-        changed = dict(self.has)
-        changed[(given[0], j)] = Fraction(a, b)
-        if sum(x for (h, k), x in changed.items() if k == j) > 1:
-            return [-33]
-        self.has = changed
-        return self.fraction(before)
-
-
-class LinesLikeTheModel(unittest.TestCase):
-    def test_many_lines_of_40_calls(self):
-        numbers = Numbers(1)
-        seen = {}
-        for turn in range(400):
-            m = 1 + numbers.below(4)
-            n = 1 + numbers.below(5)
-            model = Model(m, n)
-            calls = [begin(m, n)] + [self.mixed_call(numbers, m, n) for step in range(39)]
-            expected = [[0]] + [model.answer(call) for call in calls[1:]]
-            self.assertEqual(ask(*calls), expected, calls)
-            for one in expected:
-                seen[one[0]] = True
-        self.assertEqual(sorted(seen), [-33, -22, -2, 0])
-
-    def mixed_call(self, numbers, m, n):
-        h = numbers.below(m + n) if numbers.below(12) else m + n + numbers.below(2)
-        j = numbers.below(n) if numbers.below(12) else n + numbers.below(2)
-        kind = numbers.below(6)
-        if kind == 0:
-            return strewn(j)
-        if kind == 1:
-            return part(h, j)
-        b = numbers.one_of([0, 1, 2, 3, 6, 8, 10, 60, 99, 100, 101])
-        a = numbers.below(b + 1) if numbers.below(8) else b + 1
-        return hold(h, j, a // (1 + numbers.below(4)), b)
+        questions = all_questions(2, 3)
+        for first in range(0, len(questions), 18):
+            some = questions[first:first + 18]
+            answered = ask(*start, *some, *some)[4:]
+            self.assertEqual(answered[:len(some)], answered[len(some):])
 
 
 if __name__ == "__main__":

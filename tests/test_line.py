@@ -4,12 +4,14 @@ import unittest
 
 from reallyowned.parts import answers, read_calls
 from tests.asking import (
-    LARGEST, ask, begin, hold, line_of, lost, part, real, realstrewn, rings, strewn,
+    LARGEST, ask, begin, books, bookworth, closed, greatest, hold, holders, line_of, lost, owned, part, real,
+    realstrewn, rings, state, strewn, worth,
 )
 
 ONE_OF_EACH = [
     begin(1, 2), hold(2, 0, 1, 1), hold(1, 1, 1, 2), hold(0, 1, 1, 3), part(1, 1), strewn(1), real(0, 0),
     realstrewn(0), lost(0), rings(), hold(9, 0, 1, 1), begin(9, 9), hold(2, 1, 1, 2), hold(1, 1, 1, 1),
+    closed(), greatest(1), owned(0), books([9, 3]), worth(0, [9, 3]), bookworth(0, [9, 3]), holders(1), state(),
 ]
 
 
@@ -18,6 +20,8 @@ class Answers(unittest.TestCase):
         self.assertEqual(answers(line_of(ONE_OF_EACH)), [
             1, 0, 3, 0, 0, 1, 3, 0, 0, 1, 3, 0, 0, 1, 3, 0, 1, 2, 3, 0, 1, 6, 3, 0, 2, 3,
             3, 0, 1, 3, 3, 0, 0, 1, 1, 0, 1, -2, 1, -22, 1, -33, 1, -33,
+            1, 0, 3, 0, 2, 3, 5, 2, 2, 3, 2, 3, 5, 2, 21, 1, 24, 1, 3, 0, 8, 1, 3, 0, 8, 1, 7, 2, 0, 1, 3, 1, 1, 2,
+            2, 1, 2,
         ])
         self.assertEqual(answers([7]), [1, -11])
         self.assertEqual(answers([0, 1, 3, 1, 1, 0, 1, 1, 1, 3, 2, 1, 1, 7])[-4:], [3, 2, 0, 2])
@@ -55,6 +59,34 @@ class Answers(unittest.TestCase):
         answered = ask(*calls)
         self.assertEqual(len(answered), 40)
         self.assertEqual(answered[-1], [0, 19, 20])
+
+    def test_40_calls_with_all_sixteen_of_them(self):
+        own = [10, 20]
+        calls = [
+            state(), books(own), begin(1, 6), begin(2, 2), hold(0, 0, 1, 2), hold(3, 0, 1, 2), hold(1, 1, 1, 4),
+            hold(2, 1, 1, 2), part(3, 0), strewn(1), real(0, 1), realstrewn(0), lost(0), rings(), closed(), greatest(1),
+            owned(1), books(own), books([10, 20, 30]), worth(0, own), bookworth(0, own), bookworth(2, []), holders(1),
+            state(), hold(0, 0, 0, 1), hold(3, 0, 1, 1), hold(1, 1, 0, 1), hold(2, 1, 1, 1), rings(), closed(),
+            greatest(0), owned(0), books(own), worth(1, own), bookworth(1, own), bookworth(1, [LARGEST] * 255), lost(1),
+            begin(1, 1), holders(0), holders(1),
+        ]
+        self.assertEqual(len(calls), 40)
+        self.assertEqual({call[0] for call in calls}, set(range(16)))
+        line = line_of(calls)
+        kept = list(line)
+        answered = ask(*calls)
+        self.assertEqual(answered, [
+            [-11], [-11], [-22], [0], [0, 0, 1], [0, 0, 1], [0, 0, 1],
+            [0, 0, 1], [0, 1, 2], [0, 1, 4], [0, 1, 3], [0, 1, 6], [0, 0, 1], [0], [0], [0, 1, 3],
+            [2, 1, 6, 1, 3], [2, 80, 3, 100, 3], [-22], [0, 40, 3], [0, 40, 3], [-2], [2, 1, 1, 4, 2, 1, 2],
+            [2, 2], [0, 1, 2], [0, 1, 2], [0, 1, 4], [0, 1, 2], [2, 0, 1], [2, 0, 1],
+            [-33], [2, 0, 1, 0, 1], [-33], [0, 0, 1], [-33], [-22], [0, 1, 1],
+            [0], [0], [-2],
+        ])
+        flat = [number for one in answered for number in [len(one)] + one]
+        self.assertEqual(answers(line), flat)
+        self.assertEqual(answers(line), flat)
+        self.assertEqual(line, kept)
 
     def test_40_calls_on_the_largest_state(self):
         holds = [hold(h, j, 1, 100 - 3 * h - j) for j in range(5) for h in range(j, j + 4)]

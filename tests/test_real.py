@@ -7,8 +7,8 @@ from fractions import Fraction
 from reallyowned.ends import final_rows
 from reallyowned.holdings import Holdings
 from tests.asking import (
-    LARGEST, Numbers, all_questions, as_fraction, ask, ask_last, ask_state, begin, hold, lost, mixed_state, real,
-    realstrewn, rings, state_calls,
+    LARGEST, Numbers, Refusing, as_fraction, ask, ask_state, begin, hold, lost, mixed_state, real, realstrewn, rings,
+    state_calls,
 )
 
 
@@ -100,16 +100,12 @@ class Ends(unittest.TestCase):
                        hold(2, 1, 1, 4)], ["0 0 1", "0 1/3 2/3", "0 0 1"], [0, 1, 2])
 
 
-class Refused(unittest.TestCase):
+class Refused(Refusing):
     def test_no_such_person_or_company(self):
         start = [begin(2, 3), hold(0, 0, 1, 3), hold(2, 1, 1, 1)]
         wrong = [real(2, 0), real(0, 3), real(2, 3), real(LARGEST, 0), real(0, LARGEST), real(LARGEST, LARGEST),
                  realstrewn(3), realstrewn(4), realstrewn(LARGEST), lost(3), lost(4), lost(LARGEST)]
-        questions = all_questions(2, 3)
-        before = ask_state(start, questions)
-        for one in wrong:
-            self.assertEqual(ask_last(*start, one), [-2], one)
-            self.assertEqual(ask_state(start + [one], questions), before)
+        self.refuses(-2, start, *wrong)
 
     def test_a_company_is_no_person(self):
         answered = ask(begin(1, 2), hold(1, 1, 1, 1), real(0, 1), real(1, 1))
